@@ -1,0 +1,1 @@
+"""Document trees: the base of a document converter."""

@@ -1,0 +1,21 @@
+"""Documents: a document is a list of nodes, one for each block."""
+
+
+# A list of the notation. symbol: "" for a list that has none (the term of a
+# term list). head: its arguments that stand once. children: its repeated
+# arguments. holds: the kind of these ("block", "inline", "item", ..), "" for
+# none. A text is a tuple of bytes, a symbol that is an argument a text of
+# Python, a level or a start a whole number.
+class Node:
+    def __init__(self, symbol, head, children, holds):
+        self.symbol = symbol
+        self.head = head
+        self.children = children
+        self.holds = holds
+
+    def with_children(self, children):
+        return Node(self.symbol, self.head, children, self.holds)
+
+
+def leaf(symbol, head):
+    return Node(symbol, head, [], "")

@@ -1,0 +1,84 @@
+"""The arguments of each list of the notation.
+
+A word with * stands for any number of arguments of its kind, one with + for
+one or more; such a word is the last one. "text", "identifier" and "label" are
+strings, "inlines" is a list of inline forms without a symbol, and "caption",
+"align", "class", "item", "term", "row" and "cell" are lists with this symbol.
+"""
+
+BLOCKS = {
+    "para": ("inline*",),
+    "heading": ("level", "identifier", "inline*"),
+    "code": ("identifier", "text"),
+    "formula": ("identifier", "text"),
+    "rule": (),
+    "quote": ("block*",),
+    "bullets": ("item+",),
+    "numbers": ("start", "item+"),
+    "terms": ("term+",),
+    "table": ("identifier", "caption", "align", "row+"),
+    "figure": ("identifier", "text", "inline*"),
+    "group": ("class", "block*"),
+    "note": ("label", "block*"),
+}
+
+INLINES = {
+    "code": ("text",),
+    "math": ("text",),
+    "break": (),
+    "noteref": ("label",),
+    "ref": ("label",),
+    "cite": ("label+",),
+    "emph": ("inline*",),
+    "strong": ("inline*",),
+    "strike": ("inline*",),
+    "super": ("inline*",),
+    "sub": ("inline*",),
+    "caps": ("inline*",),
+    "link": ("text", "inline*"),
+    "image": ("text", "inline*"),
+    "span": ("class", "inline*"),
+}
+
+PARTS = {
+    "item": ("block*",),
+    "term": ("inlines", "block*"),
+    "caption": ("inline*",),
+    "align": ("alignment*",),
+    "row": ("cell*",),
+    "cell": ("inline*",),
+    "class": ("label*",),
+}
+
+
+# leading: the kinds of the arguments that stand once. following: the kind of
+# those that are repeated, "" if none are. least: the smallest number of
+# arguments.
+class Shape:
+    def __init__(self, words):
+        self.leading = []
+        self.following = ""
+        self.least = 0
+        for word in words:
+            if word[-1] not in "*+":
+                self.leading.append(word)
+            else:
+                self.following = word[:-1]
+            if word[-1] != "*":
+                self.least += 1
+
+    def allows_number(self, number):
+        return number == self.least or (number > self.least and self.following != "")
+
+
+# None: no block has this symbol.
+def block_shape(symbol):
+    return Shape(BLOCKS[symbol]) if symbol in BLOCKS else None
+
+
+def inline_shape(symbol):
+    return Shape(INLINES[symbol]) if symbol in INLINES else None
+
+
+def part_shape(symbol):
+    return Shape(PARTS[symbol])
