@@ -19,3 +19,29 @@ class Node:
 
 def leaf(symbol, head):
     return Node(symbol, head, [], "")
+
+
+def inner_nodes(node):
+    return [part for part in node.head + node.children if isinstance(part, Node)]
+
+
+# The blocks, items and entries that stand right within one of these.
+def inner_blocks(node):
+    if node.holds in ("block", "item", "term"):
+        return node.children
+    return []
+
+
+# All nodes in the order of the notation, at any depth.
+def walk(nodes, inner):
+    found = []
+    waiting = list(reversed(nodes))
+    while waiting:
+        node = waiting.pop()
+        found.append(node)
+        waiting.extend(list(reversed(inner(node))))
+    return found
+
+
+def headings(blocks):
+    return [node for node in walk(blocks, inner_blocks) if node.symbol == "heading"]

@@ -76,6 +76,16 @@ def sequence_length(data, start):
     return length
 
 
+def is_utf8(data):
+    position = 0
+    while position < len(data):
+        length = sequence_length(data, position)
+        if length == 0:
+            return False
+        position += length
+    return True
+
+
 def encoded(code):
     if code < 0x80:
         return [code]
@@ -99,6 +109,10 @@ def pieces(text):
         else:
             found.append([byte])
     return found
+
+
+def words(text):
+    return [piece for piece in pieces(text) if not is_space(piece[0])]
 
 
 def joined(texts, separator):

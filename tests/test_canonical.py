@@ -52,6 +52,8 @@ class CanonicalTest(unittest.TestCase):
                               '(para " A~\x7f\x80\u07ff\u0800\ud7ff")')
         self.assert_canonical('(para "\\u{e000}\\u{ffff}\\u{10000}\\u{fffff}\\u{100000}\\u{10ffff}")',
                               '(para "\ue000\uffff\U00010000\U000fffff\U00100000\U0010ffff")')
+        self.assert_canonical('(para "\\u{e9}\\u{5a5}\\u{20ac}\\u{a5a5}\\u{1f600}\\u{9a5c3}\\u{10a5c3}")',
+                              '(para "\u00e9\u05a5\u20ac\ua5a5\U0001f600\U0009a5c3\U0010a5c3")')
         self.assert_canonical("(para \"();'#\u00e4\u20ac\U0001f600\")", "(para \"();'#\u00e4\u20ac\U0001f600\")")
 
     def test_escapes_in_labels_and_targets(self):

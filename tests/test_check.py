@@ -224,6 +224,11 @@ class NoBlockOrInlineTest(CheckTest):
             '^(table "" (caption) (align left) (row (cell)))', '^(figure "" "")', "^(group (class))", '^(note "a")',
             "^(item)", "^(cell)", "^(class)", "^(caption)", "^(emphs)", "^left")
 
+    def test_symbols_with_digits_and_hyphens(self):
+        self.assert_block_error(7, "^a-b", "^para-", "^(para-1)", "^(h1)", "^(para- 1)", "^x0123456789-", "^(a--b)")
+        self.assert_inline_error(7, "^a-b", "^(emph-)", "^(emph2 1)")
+        self.assert_error(9, '(table "" (caption) (align ^left-1) (row))', '(table "" (caption) (align ^l0) (row))')
+
     def test_the_symbol_comes_before_the_arguments(self):
         self.assert_error(7, '^(nothing "a" (para) 1)', "^(item (heading 9))")
 
