@@ -1,31 +1,35 @@
-"""The operations on documents."""
+"""The operations on documents.
 
-from blocktrees.errors import NotationError
+What is handed in is read in the order of the parameters, since the answer is
+the code of the first thing that must be refused.
+"""
+
+from blocktrees.arguments import read_kind, read_text
+from blocktrees.errors import NotationError, Refusal
+from blocktrees.identifiers import identified_blocks
 from blocktrees.labels import problem_nodes
 from blocktrees.normal import normal_blocks
+from blocktrees.paths import block_of, paths_of, spliced
 from blocktrees.plain import blocks_text
 from blocktrees.reading import read_document
 from blocktrees.slugs import slug_of
 from blocktrees.summaries import count_all, outline_nodes
-from blocktrees.texts import is_utf8
-from blocktrees.writing import write_nodes
+from blocktrees.writing import write_list, write_nodes
+
+
+def answer(operation):
+    try:
+        return operation()
+    except Refusal as refusal:
+        return [refusal.code]
+
+
+def answer_text(operation):
+    return answer(lambda: with_length(operation()))
 
 
 def with_length(data):
     return [len(data)] + data
-
-
-# -20: the tree isn't the notation of a document.
-def answer(tree, operation):
-    try:
-        blocks = read_document(tree)
-    except NotationError:
-        return [-20]
-    return operation(blocks)
-
-
-def answer_text(tree, operation):
-    return answer(tree, lambda blocks: with_length(operation(blocks)))
 
 
 def check(tree):
@@ -37,30 +41,51 @@ def check(tree):
 
 
 def canonical(tree):
-    return answer_text(tree, write_nodes)
+    return answer_text(lambda: write_nodes(read_document(tree)))
 
 
 def normalize(tree):
-    return answer_text(tree, lambda blocks: write_nodes(normal_blocks(blocks)))
+    return answer_text(lambda: write_nodes(normal_blocks(read_document(tree))))
 
 
 def plain_text(tree):
-    return answer_text(tree, blocks_text)
+    return answer_text(lambda: blocks_text(read_document(tree)))
 
 
 def counts(tree):
-    return answer(tree, count_all)
+    return answer(lambda: count_all(read_document(tree)))
 
 
 def outline(tree):
-    return answer_text(tree, lambda blocks: write_nodes(outline_nodes(blocks)))
+    return answer_text(lambda: write_nodes(outline_nodes(read_document(tree))))
 
 
 def problems(tree):
-    return answer_text(tree, lambda blocks: write_nodes(problem_nodes(blocks)))
+    return answer_text(lambda: write_nodes(problem_nodes(read_document(tree))))
 
 
 def slug(text):
-    if not is_utf8(text):
-        return [-24]
-    return with_length(slug_of(text))
+    return answer_text(lambda: slug_of(read_text(text)))
+
+
+def identify(tree):
+    return answer_text(lambda: write_nodes(identified_blocks(read_document(tree))))
+
+
+def find(kind, tree):
+    return answer(lambda: with_each_length(paths_of(read_kind(kind), read_document(tree), [])))
+
+
+def with_each_length(paths):
+    numbers = [len(paths)]
+    for path in paths:
+        numbers.extend(with_length(path))
+    return numbers
+
+
+def block_at(path, tree):
+    return answer_text(lambda: write_list(block_of(path, read_document(tree))))
+
+
+def splice(count, path, blocks, tree):
+    return answer_text(lambda: write_nodes(spliced(count, path, read_document(blocks), read_document(tree))))

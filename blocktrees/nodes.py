@@ -13,6 +13,9 @@ class Node:
         self.children = children
         self.holds = holds
 
+    def with_head(self, head):
+        return Node(self.symbol, head, self.children, self.holds)
+
     def with_children(self, children):
         return Node(self.symbol, self.head, children, self.holds)
 
@@ -45,3 +48,14 @@ def walk(nodes, inner):
 
 def headings(blocks):
     return [node for node in walk(blocks, inner_blocks) if node.symbol == "heading"]
+
+
+# Blocks, items and entries at any depth, changed one by one in the order of
+# the notation.
+def changed_nodes(nodes, change):
+    return [changed_within(change(node), change) for node in nodes]
+
+
+def changed_within(node, change):
+    inner = inner_blocks(node)
+    return node.with_children(changed_nodes(inner, change)) if inner else node

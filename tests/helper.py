@@ -1,10 +1,13 @@
-"""What the tests share: calls of the operations, and documents made by a seeded generator."""
+"""What the tests share: calls of the operations, documents made by a seeded generator, and a second reader."""
 
 import random
+import re
 
 from blocktrees import documents
 
 LONGEST = 600
+LONGEST_PATH = 20
+LARGEST = 4294967295
 
 
 class FrozenList(list):
@@ -17,27 +20,51 @@ class FrozenList(list):
     __setitem__ = __delitem__ = __iadd__ = __imul__ = refuse
 
 
+class Untouched(list):
+    """A list that must not be looked at."""
+
+    def refuse(self, *args):
+        raise AssertionError("this was looked at too early")
+
+    __iter__ = __len__ = __getitem__ = __contains__ = __eq__ = refuse
+
+
 def to_list(text):
     return list(text if isinstance(text, bytes) else text.encode("utf-8"))
 
 
-def call(name, *texts):
-    """The answer of an operation to texts, which it must leave as they are."""
-    lists = [to_list(text) for text in texts]
-    for data in lists:
-        assert len(data) <= LONGEST, f"{len(data)} bytes: no request is as long as this"
+def to_argument(argument):
+    """What is handed in for a text, for a path (a list), or for a whole number."""
+    if isinstance(argument, int):
+        assert 0 <= argument <= LARGEST
+        return argument
+    if isinstance(argument, list):
+        assert len(argument) <= LONGEST_PATH and all(0 <= index <= LARGEST for index in argument)
+        return argument
+    data = to_list(argument)
+    assert len(data) <= LONGEST, f"{len(data)} bytes: no request is as long as this"
+    return data
+
+
+def fresh(values, kind):
+    return [kind(value) if isinstance(value, list) else value for value in values]
+
+
+def call(name, *arguments):
+    """The answer of an operation to its arguments, which it must leave as they are."""
+    values = [to_argument(argument) for argument in arguments]
     operation = getattr(documents, name)
-    frozen = [FrozenList(data) for data in lists]
+    frozen = fresh(values, FrozenList)
     answer = operation(*frozen)
-    assert frozen == lists, "what was handed in was changed"
-    assert operation(*[list(data) for data in lists]) == answer, "a second call answers something else"
+    assert frozen == values, "what was handed in was changed"
+    assert operation(*fresh(values, list)) == answer, "a second call answers something else"
     assert type(answer) is list and all(type(number) is int for number in answer), answer
     return answer
 
 
-def call_text(name, *texts):
+def call_text(name, *arguments):
     """The text that an operation answers, or its error code."""
-    answer = call(name, *texts)
+    answer = call(name, *arguments)
     if answer[0] < 0:
         assert len(answer) == 1, answer
         return answer[0]
@@ -56,6 +83,49 @@ NO_DOCUMENTS = [
     nested(17), "()", '"a"', "para", "1", "(item)", "(para (para))", "(rule 1)", '(heading 7 "" "x")',
     '(rule) (note "")', '(table "" (caption) (align left) (row))',
 ]
+
+
+def parsed(canonical):
+    """The expressions of a canonical notation: a list for each list, all else as it is written."""
+    levels = [[]]
+    for token in re.findall(r'"(?:[^"\\]|\\.)*"|[()]|[^\s()"]+', canonical):
+        if token == "(":
+            levels.append([])
+        elif token == ")":
+            whole = levels.pop()
+            levels[-1].append(whole)
+        else:
+            levels[-1].append(token)
+    assert len(levels) == 1
+    return levels[0]
+
+
+def written(expressions, separator="\n"):
+    """The canonical notation of expressions."""
+    return separator.join(each if isinstance(each, str) else f"({written(each, ' ')})" for each in expressions)
+
+
+def depth_of(expressions):
+    return max([1 + depth_of(each) for each in expressions if isinstance(each, list)], default=0)
+
+
+def places_of(block):
+    """The lists of a parsed block: for each, the list that holds its blocks, and the place of the first one there."""
+    if block[0] in ("quote", "group", "note"):
+        return [(block, 1 if block[0] == "quote" else 2)]
+    if block[0] in ("bullets", "numbers", "terms"):
+        first = 2 if block[0] == "numbers" else 1
+        return [(part, 2 if block[0] == "terms" else 1) for part in block[first:]]
+    return []
+
+
+def blocks_with_paths(holder, first=0, start=()):
+    """All blocks of a parsed document with their paths, in the order of the notation."""
+    for index, block in enumerate(holder[first:]):
+        path = [*start, index]
+        yield path, block
+        for number, (inner, place) in enumerate(places_of(block)):
+            yield from blocks_with_paths(inner, place, [*path, number])
 
 
 class Generator:
@@ -164,3 +234,9 @@ class Generator:
 def some_documents(number, images=True):
     generator = Generator(number, images)
     return [generator.document() for _ in range(number)]
+
+
+def some_canonical(number):
+    """Canonical notations, each no longer than a request."""
+    texts = [call_text("canonical", text) for text in some_documents(number)]
+    return [text for text in texts if len(text.encode("utf-8")) <= LONGEST]
