@@ -4,14 +4,16 @@ What is handed in is read in the order of the parameters, since the answer is
 the code of the first thing that must be refused.
 """
 
-from blocktrees.arguments import read_kind, read_text
+from blocktrees.arguments import read_kind, read_shift, read_text
 from blocktrees.errors import NotationError, Refusal
 from blocktrees.identifiers import identified_blocks
 from blocktrees.labels import problem_nodes
+from blocktrees.levels import with_shifted_headings
 from blocktrees.normal import normal_blocks
 from blocktrees.paths import block_of, paths_of, spliced
 from blocktrees.plain import blocks_text
 from blocktrees.reading import read_document
+from blocktrees.sectioning import section_blocks, sections_of, with_moved_section
 from blocktrees.slugs import slug_of
 from blocktrees.summaries import count_all, outline_nodes
 from blocktrees.writing import write_list, write_nodes
@@ -89,3 +91,26 @@ def block_at(path, tree):
 
 def splice(count, path, blocks, tree):
     return answer_text(lambda: write_nodes(spliced(count, path, read_document(blocks), read_document(tree))))
+
+
+def sections(tree):
+    return answer(lambda: section_numbers(sections_of(read_document(tree))))
+
+
+def section_numbers(found):
+    numbers = [len(found)]
+    for section in found:
+        numbers.extend([section.level, section.start, section.end - section.start])
+    return numbers
+
+
+def extract_section(index, tree):
+    return answer_text(lambda: write_nodes(section_blocks(index, read_document(tree))))
+
+
+def move_section(index, target, tree):
+    return answer_text(lambda: write_nodes(with_moved_section(index, target, read_document(tree))))
+
+
+def shift_headings(up, amount, tree):
+    return answer_text(lambda: write_nodes(with_shifted_headings(read_shift(up, amount), read_document(tree))))

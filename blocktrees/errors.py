@@ -32,3 +32,8 @@ class EncodingError(Refusal):
 class NestingError(Refusal):
     def __init__(self):
         Refusal.__init__(self, -28)
+
+
+class MisfitError(Refusal):
+    def __init__(self):
+        Refusal.__init__(self, -33)

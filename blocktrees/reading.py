@@ -94,8 +94,12 @@ def read_string(kind, expression):
     raise NotationError(9, expression.position)
 
 
+def is_level(number):
+    return 1 <= number <= HIGHEST_LEVEL
+
+
 def read_level(expression):
-    if not 1 <= expression.value <= HIGHEST_LEVEL:
+    if not is_level(expression.value):
         raise NotationError(9, expression.position)
     return expression.value
 
