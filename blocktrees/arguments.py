@@ -1,7 +1,8 @@
 """Reading what is handed in beside notations and paths."""
 
 from blocktrees.errors import ChoiceError, EncodingError
-from blocktrees.shapes import BLOCKS
+from blocktrees.reading import is_label
+from blocktrees.shapes import BLOCKS, STYLES
 from blocktrees.texts import ascii_bytes, is_utf8
 
 MOST_LEVELS = 5
@@ -10,13 +11,28 @@ MOST_LEVELS = 5
 def read_text(text):
     if not is_utf8(text):
         raise EncodingError()
-    return text
+    return tuple(text)
+
+
+def read_label(text):
+    label = read_text(text)
+    if not is_label(label):
+        raise ChoiceError()
+    return label
 
 
 def read_kind(text):
-    read_text(text)
-    for symbol in BLOCKS:
-        if ascii_bytes(symbol) == text:
+    return read_symbol(text, list(BLOCKS))
+
+
+def read_style(text):
+    return read_symbol(text, list(STYLES))
+
+
+def read_symbol(text, symbols):
+    content = list(read_text(text))
+    for symbol in symbols:
+        if ascii_bytes(symbol) == content:
             return symbol
     raise ChoiceError()
 

@@ -4,15 +4,18 @@ What is handed in is read in the order of the parameters, since the answer is
 the code of the first thing that must be refused.
 """
 
-from blocktrees.arguments import read_kind, read_shift, read_text
+from blocktrees.arguments import read_kind, read_label, read_shift, read_style, read_text
+from blocktrees.differences import difference_edits
 from blocktrees.errors import NotationError, Refusal
 from blocktrees.identifiers import identified_blocks
+from blocktrees.inlines import with_replaced_text, without_style
 from blocktrees.labels import problem_nodes
 from blocktrees.levels import with_shifted_headings
 from blocktrees.normal import normal_blocks
 from blocktrees.paths import block_of, paths_of, spliced
 from blocktrees.plain import blocks_text
 from blocktrees.reading import read_document
+from blocktrees.renaming import with_renamed_label
 from blocktrees.sectioning import section_blocks, sections_of, with_moved_section
 from blocktrees.slugs import slug_of
 from blocktrees.summaries import count_all, outline_nodes
@@ -114,3 +117,19 @@ def move_section(index, target, tree):
 
 def shift_headings(up, amount, tree):
     return answer_text(lambda: write_nodes(with_shifted_headings(read_shift(up, amount), read_document(tree))))
+
+
+def replace_text(old, new, tree):
+    return answer_text(lambda: write_nodes(with_replaced_text(read_text(old), read_text(new), read_document(tree))))
+
+
+def remove_style(style, tree):
+    return answer_text(lambda: write_nodes(without_style(read_style(style), read_document(tree))))
+
+
+def rename_label(old, new, tree):
+    return answer_text(lambda: write_nodes(with_renamed_label(read_label(old), read_label(new), read_document(tree))))
+
+
+def difference(first, second):
+    return answer_text(lambda: write_nodes(difference_edits(read_document(first), read_document(second))))

@@ -11,6 +11,11 @@ class NowhereError(Refusal):
         Refusal.__init__(self, -2)
 
 
+class TakenError(Refusal):
+    def __init__(self):
+        Refusal.__init__(self, -17)
+
+
 # kind and position are those of the first error of a notation.
 class NotationError(Refusal):
     def __init__(self, kind, position):

@@ -1,7 +1,7 @@
 """Making identifiers for the headings that have none."""
 
-from blocktrees.labels import identifiers_of
-from blocktrees.nodes import changed_nodes, inner_blocks, walk
+from blocktrees.labels import identifiers_of, label_of, with_label
+from blocktrees.nodes import changed_parts, inner_blocks, walk
 from blocktrees.plain import inlines_text
 from blocktrees.slugs import slug_of
 from blocktrees.texts import ascii_bytes
@@ -24,13 +24,12 @@ class Identifiers:
         return identifier
 
     def identified(self, node):
-        if node.symbol != "heading" or node.head[1]:
+        if node.symbol != "heading" or label_of(node):
             return node
-        identifier = self.take_free(inlines_text(node.children))
-        return node.with_head([node.head[0], identifier])
+        return with_label(node, self.take_free(inlines_text(node.children)))
 
 
 def identified_blocks(blocks):
     # Also those further behind are in use from the beginning.
     known = Identifiers(identifiers_of(walk(blocks, inner_blocks)))
-    return changed_nodes(blocks, lambda node: known.identified(node))
+    return changed_parts(blocks, lambda node: known.identified(node))

@@ -1,8 +1,33 @@
-"""The problems of a document with labels and headings."""
+"""The labels of a document, and the problems with them and with headings."""
 
 from blocktrees.nodes import headings, inner_nodes, leaf, walk
 from blocktrees.plain import inlines_text
 from blocktrees.texts import words
+
+# Where the label, or the identifier, stands in the head of what has one.
+# What a code block has is a language.
+LABEL_PLACES = {"heading": 1, "formula": 0, "table": 0, "figure": 0, "note": 0, "noteref": 0, "ref": 0}
+IDENTIFIED = ("heading", "formula", "table", "figure")
+
+
+# The empty text for none.
+def label_of(node):
+    return node.head[LABEL_PLACES[node.symbol]] if node.symbol in LABEL_PLACES else ()
+
+
+def with_label(node, label):
+    head = list(node.head)
+    head[LABEL_PLACES[node.symbol]] = label
+    return node.with_head(head)
+
+
+def identifiers_of(nodes):
+    labels = [label_of(node) for node in nodes if node.symbol in IDENTIFIED]
+    return [label for label in labels if label]
+
+
+def labels_of(symbol, nodes):
+    return [label_of(node) for node in nodes if node.symbol == symbol]
 
 
 def problem_nodes(blocks):
@@ -23,24 +48,6 @@ def label_problems(nodes):
 
 def leaves(symbol, values):
     return [leaf(symbol, [value]) for value in values]
-
-
-def identifiers_of(nodes):
-    identifiers = [identifier_of(node) for node in nodes]
-    return [identifier for identifier in identifiers if identifier]
-
-
-# The empty text for none; what a code block has is a language.
-def identifier_of(node):
-    if node.symbol == "heading":
-        return node.head[1]
-    if node.symbol in ("formula", "table", "figure"):
-        return node.head[0]
-    return ()
-
-
-def labels_of(symbol, nodes):
-    return [node.head[0] for node in nodes if node.symbol == symbol]
 
 
 def once_each(labels):

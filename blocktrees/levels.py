@@ -1,12 +1,12 @@
 """Changing the levels of headings."""
 
 from blocktrees.errors import MisfitError
-from blocktrees.nodes import changed_nodes
+from blocktrees.nodes import changed_parts
 from blocktrees.reading import is_level
 
 
 def with_shifted_headings(shift, blocks):
-    return changed_nodes(blocks, lambda node: shifted(shift, node))
+    return changed_parts(blocks, lambda node: shifted(shift, node))
 
 
 def shifted(shift, node):

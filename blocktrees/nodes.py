@@ -50,12 +50,16 @@ def headings(blocks):
     return [node for node in walk(blocks, inner_blocks) if node.symbol == "heading"]
 
 
-# Blocks, items and entries at any depth, changed one by one in the order of
-# the notation.
-def changed_nodes(nodes, change):
-    return [changed_within(change(node), change) for node in nodes]
+# The nodes among these parts, and all nodes within them, changed one by one
+# from left to right. What stands within a node is changed ahead of it, so that
+# change is handed a node whose parts are changed ones.
+def changed_parts(parts, change):
+    return [changed_part(part, change) for part in parts]
 
 
-def changed_within(node, change):
-    inner = inner_blocks(node)
-    return node.with_children(changed_nodes(inner, change)) if inner else node
+def changed_part(part, change):
+    if not isinstance(part, Node):
+        return part
+    head = changed_parts(part.head, change)
+    children = changed_parts(part.children, change)
+    return change(Node(part.symbol, head, children, part.holds))

@@ -1,9 +1,8 @@
 """The normal form of a list of inline forms."""
 
 from blocktrees.nodes import leaf
+from blocktrees.shapes import STYLES
 from blocktrees.texts import is_space, pieces, SPACE
-
-WRAPPING = ("emph", "strong", "strike", "super", "sub", "caps", "link", "span")
 
 
 # content: a text (of a word or of white space) or a node. wrappers: the nodes
@@ -35,13 +34,17 @@ def divide(inlines, wrappers):
     for inline in inlines:
         if isinstance(inline, tuple):
             runs.extend([Run(tuple(piece), wrappers) for piece in pieces(inline)])
-        elif inline.symbol in WRAPPING:
+        elif is_wrapping(inline.symbol):
             runs.extend(divide(inline.children, add_wrapper(wrappers, inline)))
         elif inline.symbol == "image":
             runs.append(Run(inline.with_children(normal_inlines(inline.children)), wrappers))
         else:
             runs.append(Run(inline, wrappers))
     return runs
+
+
+def is_wrapping(symbol):
+    return symbol in STYLES or symbol in ("link", "span")
 
 
 def add_wrapper(wrappers, node):

@@ -40,6 +40,9 @@ INLINES = {
     "span": ("class", "inline*"),
 }
 
+# In the order of the styles.
+STYLES = ("emph", "strong", "strike", "super", "sub", "caps")
+
 PARTS = {
     "item": ("block*",),
     "term": ("inlines", "block*"),

@@ -59,6 +59,7 @@ def call(name, *arguments):
     assert frozen == values, "what was handed in was changed"
     assert operation(*fresh(values, list)) == answer, "a second call answers something else"
     assert type(answer) is list and all(type(number) is int for number in answer), answer
+    assert min(answer) >= 0 or (len(answer) == 1 and name != "check"), answer
     return answer
 
 
@@ -83,6 +84,21 @@ NO_DOCUMENTS = [
     nested(17), "()", '"a"', "para", "1", "(item)", "(para (para))", "(rule 1)", '(heading 7 "" "x")',
     '(rule) (note "")', '(table "" (caption) (align left) (row))',
 ]
+
+# What is no UTF-8.
+NO_TEXTS = [b"\xff", b"para\x80", b"\xc3", b"\xe2\x82", b"\xed\xa0\x80", b"\xf4\x90\x80\x80", b"a" * 599 + b"\xc3"]
+
+# Blocks with a place for inline forms.
+INLINE_PLACES = [
+    "(para {})", '(heading 1 "" "x" {})', '(figure "" "" {})', "(para (emph {}))", "(para (strong (strike {})))",
+    "(para (super {}))", "(para (sub {}))", "(para (caps {}))", '(para (link "" {}))', '(para (image "" {}))',
+    "(para (span (class) {}))", "(terms (term ({})))", "(terms (term () (para {})))",
+    '(table "" (caption {}) (align left) (row (cell)))', '(table "" (caption) (align left) (row (cell {})))',
+    '(table "" (caption) (align left right) (row (cell) (cell)) (row (cell) (cell {})))', "(quote (para {}))",
+    "(bullets (item) (item (para {})))", "(numbers 1 (item (para {})))", '(group (class "k") (para {}))',
+]
+
+STYLES = ["emph", "strong", "strike", "super", "sub", "caps"]
 
 
 def parsed(canonical):
@@ -126,6 +142,52 @@ def blocks_with_paths(holder, first=0, start=()):
         yield path, block
         for number, (inner, place) in enumerate(places_of(block)):
             yield from blocks_with_paths(inner, place, [*path, number])
+
+
+def all_expressions(expressions):
+    """All lists among these expressions, at any depth, in the order of the notation."""
+    for each in expressions:
+        if isinstance(each, list):
+            yield each
+            yield from all_expressions(each)
+
+
+def inline_lists(document):
+    """The lists of inline forms in a parsed document: for each, what holds it, and the place of the first one there."""
+    firsts = {"para": 1, "heading": 3, "figure": 3, "caption": 1, "cell": 1, "link": 2, "image": 2, "span": 2}
+    firsts.update({style: 1 for style in STYLES})
+    for each in all_expressions(document):
+        if each and each[0] == "term":
+            yield each[1], 0
+        elif each and isinstance(each[0], str) and each[0] in firsts:
+            yield each, firsts[each[0]]
+
+
+def performed(edits, canonical):
+    """What edits in canonical notation make of a document, or None if they don't fit."""
+    rest, changed = parsed(canonical), []
+    for symbol, *arguments in parsed(edits):
+        if symbol == "insert":
+            changed += arguments
+        else:
+            number = int(arguments[0])
+            if number > len(rest):
+                return None
+            changed += rest[:number] if symbol == "keep" else []
+            rest = rest[number:]
+    return None if rest else written(changed)
+
+
+def unquoted(string):
+    """The text of a string of a canonical notation."""
+    short = {"n": "\n", "t": "\t"}
+    return re.sub(r"\\(?:u\{(\w+)\}|(.))", lambda found: chr(int(found[1], 16)) if found[1] else
+                  short.get(found[2], found[2]), string[1:-1])
+
+
+def quoted(text):
+    short = {"\n": "\\n", "\t": "\\t", '"': '\\"', "\\": "\\\\"}
+    return '"' + "".join(short.get(c) or (f"\\u{{{ord(c):x}}}" if c < " " else c) for c in text) + '"'
 
 
 class Generator:

@@ -1,7 +1,7 @@
 import unittest
 
 from blocktrees import documents
-from helper import blocks_with_paths, call, nested, NO_DOCUMENTS, parsed, some_canonical, to_list, Untouched
+from helper import blocks_with_paths, call, nested, NO_DOCUMENTS, NO_TEXTS, parsed, some_canonical, to_list, Untouched
 
 # A block of each kind.
 BLOCKS = {
@@ -16,7 +16,6 @@ NO_KINDS = [
     "cite", "link", "image", "span", "text", "block", "keep", "rules", "rul", "not", "1", "-", "\u00e9", "p\u00e4ra",
     "x" * 600, "\u20ac" * 200,
 ]
-NO_TEXTS = [b"\xff", b"para\x80", b"\xc3", b"\xe2\x82", b"\xed\xa0\x80", b"\xf4\x90\x80\x80", b"a" * 599 + b"\xc3"]
 
 
 def symbol_at(path, text):

@@ -217,7 +217,10 @@ class LanguageTest(unittest.TestCase):
             above = parents(tree)
             for node in nodes(tree, ast.Name):
                 if node.id in holders and isinstance(node.ctx, ast.Load):
-                    self.assertIsInstance(above[node], (ast.Subscript, ast.Compare, ast.For, ast.comprehension))
+                    parent = above[node]
+                    copied = isinstance(parent, ast.Call) and parent.func.id in ("list", "tuple", "dict")
+                    read = isinstance(parent, (ast.Subscript, ast.Compare, ast.For, ast.comprehension))
+                    self.assertTrue(copied or read, ast.unparse(parent))
 
     @for_each_file
     def test_views_are_walked_at_once(self, name, tree):

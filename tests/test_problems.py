@@ -1,15 +1,7 @@
 import unittest
 
-from helper import call, call_text, nested, NO_DOCUMENTS
+from helper import call, call_text, INLINE_PLACES, nested, NO_DOCUMENTS
 
-REFERENCE_PLACES = [
-    "(para {})", '(heading 1 "" "x" {})', '(figure "" "" {})', "(para (emph {}))", "(para (strong (strike {})))",
-    "(para (super {}))", "(para (sub {}))", "(para (caps {}))", '(para (link "" {}))', '(para (image "" {}))',
-    "(para (span (class) {}))", "(terms (term ({})))", "(terms (term () (para {})))",
-    '(table "" (caption {}) (align left) (row (cell)))', '(table "" (caption) (align left) (row (cell {})))',
-    '(table "" (caption) (align left right) (row (cell) (cell)) (row (cell) (cell {})))', "(quote (para {}))",
-    "(bullets (item) (item (para {})))", "(numbers 1 (item (para {})))", '(group (class "k") (para {}))',
-]
 BLOCK_PLACES = [
     "{}", "(quote {})", "(bullets (item) (item (rule) {}))", "(numbers 1 (item {}))", "(terms (term () {}))",
     "(group (class) {})", '(group (class "k") {})', "(quote (quote {}))",
@@ -60,7 +52,7 @@ class ProblemsTest(unittest.TestCase):
         self.assert_problems('(figure "a" "") (figure "A" "") (figure "a-" "")')
 
     def test_unknown_ref(self):
-        for place in REFERENCE_PLACES:
+        for place in INLINE_PLACES:
             self.assert_problems(place.replace("{}", '(ref "x")'), '(unknown-ref "x")')
             self.assert_problems(place.replace("{}", '(ref "x")') + '(figure "x" "")')
         self.assert_problems('(para (ref "b") (ref "a") (ref "k") (ref "b")) (figure "k" "") (para (ref "c") (ref "a"))',
@@ -75,7 +67,7 @@ class ProblemsTest(unittest.TestCase):
         self.assert_problems('(note "a") (para (noteref "a")) (figure "a" "")')
 
     def test_unknown_note(self):
-        for place in REFERENCE_PLACES:
+        for place in INLINE_PLACES:
             self.assert_problems(place.replace("{}", '(noteref "x")'), '(unknown-note "x")')
             self.assert_problems(place.replace("{}", '(noteref "x")') + '(note "x")')
         self.assert_problems('(para (noteref "b") (noteref "a") (noteref "b")) (figure "a" "") (para (noteref "c"))',
