@@ -1,5 +1,6 @@
-"""The difference of two documents."""
+"""The difference of two documents, and performing edits."""
 
+from blocktrees.errors import MisfitError
 from blocktrees.nodes import leaf, Node
 from blocktrees.writing import write_list
 
@@ -66,3 +67,21 @@ def edit_of(symbol, blocks):
     if symbol == "insert":
         return Node(symbol, [], blocks, "block")
     return leaf(symbol, [len(blocks)])
+
+
+def patched(edits, blocks):
+    changed = []
+    place = 0
+    for edit in edits:
+        if edit.symbol == "insert":
+            changed.extend(edit.children)
+        else:
+            end = place + edit.head[0]
+            if end > len(blocks):
+                raise MisfitError()
+            if edit.symbol == "keep":
+                changed.extend(blocks[place:end])
+            place = end
+    if place < len(blocks):
+        raise MisfitError()
+    return changed

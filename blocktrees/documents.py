@@ -5,7 +5,7 @@ the code of the first thing that must be refused.
 """
 
 from blocktrees.arguments import read_kind, read_label, read_shift, read_style, read_text
-from blocktrees.differences import difference_edits
+from blocktrees.differences import difference_edits, patched
 from blocktrees.errors import NotationError, Refusal
 from blocktrees.identifiers import identified_blocks
 from blocktrees.inlines import with_replaced_text, without_style
@@ -14,7 +14,7 @@ from blocktrees.levels import with_shifted_headings
 from blocktrees.normal import normal_blocks
 from blocktrees.paths import block_of, paths_of, spliced
 from blocktrees.plain import blocks_text
-from blocktrees.reading import read_document
+from blocktrees.reading import read_document, read_edits
 from blocktrees.renaming import with_renamed_label
 from blocktrees.sectioning import section_blocks, sections_of, with_moved_section
 from blocktrees.slugs import slug_of
@@ -133,3 +133,7 @@ def rename_label(old, new, tree):
 
 def difference(first, second):
     return answer_text(lambda: write_nodes(difference_edits(read_document(first), read_document(second))))
+
+
+def patch(edits, tree):
+    return answer_text(lambda: write_nodes(patched(read_edits(edits), read_document(tree))))

@@ -39,6 +39,11 @@ class NestingError(Refusal):
         Refusal.__init__(self, -28)
 
 
+class EditsError(Refusal):
+    def __init__(self):
+        Refusal.__init__(self, -29)
+
+
 class MisfitError(Refusal):
     def __init__(self):
         Refusal.__init__(self, -33)

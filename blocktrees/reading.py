@@ -1,9 +1,9 @@
-"""Reading a text as a document, with the errors of the kinds 7 to 9."""
+"""Reading a text as a document, with the errors of the kinds 7 to 9, or as edits."""
 
-from blocktrees.errors import NotationError
+from blocktrees.errors import EditsError, NotationError
 from blocktrees.expressions import read_expressions
 from blocktrees.nodes import Node
-from blocktrees.shapes import block_shape, inline_shape, part_shape
+from blocktrees.shapes import block_shape, edit_shape, inline_shape, part_shape
 from blocktrees.texts import is_letter_or_digit
 
 LONGEST_LABEL = 40
@@ -13,6 +13,13 @@ ALIGNMENTS = ("none", "left", "center", "right")
 
 def read_document(data):
     return [read_block(expression) for expression in read_expressions(data)]
+
+
+def read_edits(data):
+    try:
+        return [read_edit(expression) for expression in read_expressions(data)]
+    except NotationError:
+        raise EditsError() from None
 
 
 def is_label(text):
@@ -37,6 +44,10 @@ def read_block(expression):
     return read_shaped(expression, block_shape(list_symbol(expression)))
 
 
+def read_edit(expression):
+    return read_shaped(expression, edit_shape(list_symbol(expression)))
+
+
 def read_inline(expression):
     if expression.kind == "string":
         return expression.value
@@ -49,8 +60,7 @@ def read_shaped(expression, shape):
     arguments = expression.value[1:]
     if not shape.allows_number(len(arguments)):
         raise NotationError(8, expression.position)
-    needs_integer = len(shape.leading) > 0 and shape.leading[0] in ("level", "start")
-    if needs_integer and arguments[0].kind != "integer":
+    if shape.begins_with_integer() and arguments[0].kind != "integer":
         raise NotationError(8, expression.position)
     return read_list(expression, shape)
 
@@ -78,7 +88,7 @@ def read_argument(kind, expression):
         return read_string(kind, expression)
     if kind == "level":
         return read_level(expression)
-    if kind == "start":
+    if kind == "number":
         return expression.value
     if kind == "alignment":
         return read_alignment(expression)

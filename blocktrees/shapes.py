@@ -2,8 +2,9 @@
 
 A word with * stands for any number of arguments of its kind, one with + for
 one or more; such a word is the last one. "text", "identifier" and "label" are
-strings, "inlines" is a list of inline forms without a symbol, and "caption",
-"align", "class", "item", "term", "row" and "cell" are lists with this symbol.
+strings, "level" and "number" are integers, "inlines" is a list of inline forms
+without a symbol, and "caption", "align", "class", "item", "term", "row" and
+"cell" are lists with this symbol.
 """
 
 BLOCKS = {
@@ -14,7 +15,7 @@ BLOCKS = {
     "rule": (),
     "quote": ("block*",),
     "bullets": ("item+",),
-    "numbers": ("start", "item+"),
+    "numbers": ("number", "item+"),
     "terms": ("term+",),
     "table": ("identifier", "caption", "align", "row+"),
     "figure": ("identifier", "text", "inline*"),
@@ -53,6 +54,12 @@ PARTS = {
     "class": ("label*",),
 }
 
+EDITS = {
+    "keep": ("number",),
+    "remove": ("number",),
+    "insert": ("block*",),
+}
+
 
 # leading: the kinds of the arguments that stand once. following: the kind of
 # those that are repeated, "" if none are. least: the smallest number of
@@ -73,6 +80,9 @@ class Shape:
     def allows_number(self, number):
         return number == self.least or (number > self.least and self.following != "")
 
+    def begins_with_integer(self):
+        return len(self.leading) > 0 and self.leading[0] in ("level", "number")
+
 
 # None: no block has this symbol.
 def block_shape(symbol):
@@ -85,3 +95,8 @@ def inline_shape(symbol):
 
 def part_shape(symbol):
     return Shape(PARTS[symbol])
+
+
+# None: no edit has this symbol.
+def edit_shape(symbol):
+    return Shape(EDITS[symbol]) if symbol in EDITS else None

@@ -5,6 +5,18 @@ import re
 
 from blocktrees import documents
 
+# The operations and the names of their parameters.
+PARAMETERS = {
+    "check": ["tree"], "canonical": ["tree"], "normalize": ["tree"], "plain_text": ["tree"], "counts": ["tree"],
+    "outline": ["tree"], "problems": ["tree"], "slug": ["text"], "identify": ["tree"], "find": ["kind", "tree"],
+    "block_at": ["path", "tree"], "splice": ["count", "path", "blocks", "tree"], "sections": ["tree"],
+    "extract_section": ["index", "tree"], "move_section": ["index", "target", "tree"],
+    "shift_headings": ["up", "amount", "tree"], "replace_text": ["old", "new", "tree"], "remove_style": ["style", "tree"],
+    "rename_label": ["old", "new", "tree"], "difference": ["first", "second"], "patch": ["edits", "tree"],
+}
+# Those that are told of a document alone.
+OF_A_TREE = [operation for operation, names in PARAMETERS.items() if names == ["tree"]]
+
 LONGEST = 600
 LONGEST_PATH = 20
 LARGEST = 4294967295

@@ -7,13 +7,13 @@ import pathlib
 import re
 import unittest
 
+from helper import PARAMETERS
+
 PACKAGE = pathlib.Path(__file__).resolve().parent.parent / "blocktrees"
 SOURCES = {path.relative_to(PACKAGE.parent).as_posix(): path.read_text("utf-8")
            for path in sorted(PACKAGE.rglob("*.py"))}
 TREES = {name: ast.parse(source) for name, source in SOURCES.items()}
 
-OPERATIONS = """check canonical normalize plain_text counts outline problems slug identify find block_at splice sections
-    extract_section move_section shift_headings replace_text remove_style rename_label difference patch""".split()
 ERRORS = """Exception ValueError TypeError KeyError IndexError LookupError ZeroDivisionError ArithmeticError
     OverflowError RuntimeError NotImplementedError AttributeError StopIteration""".split()
 OWN_NAMES = """len range enumerate zip min max sum abs sorted reversed int str bool list tuple dict set frozenset
@@ -249,10 +249,11 @@ class LanguageTest(unittest.TestCase):
     @for_each_file
     def test_each_operation_stands_in_its_file_alone(self, name, tree):
         if name != "blocktrees/documents.py":
-            self.assertEqual([each for each in top_names(tree) if each in OPERATIONS], [])
-        for node in TREES["blocktrees/documents.py"].body:
-            if isinstance(node, ast.FunctionDef) and node.name in OPERATIONS:
-                self.assertEqual(node.args.defaults, [])
+            self.assertEqual([each for each in top_names(tree) if each in PARAMETERS], [])
+        written = {node.name: node.args for node in TREES["blocktrees/documents.py"].body if isinstance(node, ast.FunctionDef)}
+        for operation, names in PARAMETERS.items():
+            self.assertEqual([each.arg for each in written[operation].args], names)
+            self.assertEqual(written[operation].defaults, [])
 
 
 if __name__ == "__main__":

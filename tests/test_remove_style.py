@@ -83,7 +83,8 @@ class RemoveStyleTest(unittest.TestCase):
         for text in ['(code "emph" "(emph)")', '(formula "emph" "x")', '(para "emph" (code "emph") (math "emph"))', "(rule)",
                      '(para (link "emph" "a") (image "emph") (span (class "emph")))', '(group (class "emph"))', '(note "emph")',
                      '(para (ref "emph") (noteref "emph") (cite "emph"))', '(heading 1 "emph")', "(quote)", "(para)",
-                     '(table "emph" (caption) (align left) (row (cell)))', '(figure "emph" "emph")', '(bullets (item) (item (para "")))']:
+                     '(table "emph" (caption) (align left) (row (cell)))', '(figure "emph" "emph")',
+                     '(bullets (item) (item (para "")))']:
             for style in STYLES:
                 self.assert_removed(style, text, text)
 

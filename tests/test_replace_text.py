@@ -80,7 +80,8 @@ class ReplaceTextTest(unittest.TestCase):
     def test_texts_that_become_empty(self):
         self.assert_text("a", "", "a", "")
         self.assert_text("a", "", "aaa", "")
-        self.assert_replaced("ab", "", '(para "ab") (heading 1 "" (emph "abab") "" "x")', '(para "")\n(heading 1 "" (emph "") "" "x")')
+        self.assert_replaced("ab", "", '(para "ab") (heading 1 "" (emph "abab") "" "x")',
+                             '(para "")\n(heading 1 "" (emph "") "" "x")')
 
     def test_empty_texts(self):
         self.assert_replaced("a", "b", '(para "") (para) (para (emph ""))', '(para "")\n(para)\n(para (emph ""))')
